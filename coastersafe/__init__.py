@@ -1,0 +1,1 @@
+"""Coastersafe: the safety of a roller coaster, from the track to the logic."""
