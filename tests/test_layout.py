@@ -189,7 +189,8 @@ class TextTest(unittest.TestCase):
         self.assertEqual(format_layout(Layout(EXAMPLE)), expected)
 
     def test_what_is_written_is_read_again(self):
-        for segments in (EXAMPLE, FLAT, [("brake", 500, 0)] * 2, [("brake", 1, 100), ("brake", 1, -100)], flat_of(4000)):
+        steep = [("brake", 1, 100), ("brake", 1, -100)]
+        for segments in (EXAMPLE, FLAT, [("brake", 500, 0)] * 2, steep, flat_of(4000)):
             layout = parse_layout(format_layout(Layout(segments)))
             self.assertEqual(layout.segments, tuple(segments))
 
