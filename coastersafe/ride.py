@@ -128,14 +128,15 @@ def dangers(ride, state):
     trains, bars, _ = state
     found = []
     for block in range(len(ride.ways)):
-        if len([train for train in trains if _is_in(ride, train, block)]) > 1:
+        if len([train for train in trains if is_in(ride, train, block)]) > 1:
             found.append(("together", block))
     if bars == 1 and not _is_held_in_station(ride, trains):
         found.append(("bars",))
     return found
 
 
-def _is_in(ride, train, block):
+def is_in(ride, train, block):
+    """Whether a train is in a block; one that is over is in two."""
     kind, place, _ = train
     return place == block or (kind == "over" and _next_block(ride, place) == block)
 

@@ -23,6 +23,11 @@ INTERFACE = {
         "Logic", "parse_logic", "format_logic", "condition_value", "parse_condition", "format_condition",
     ],
     "machine": ["compiled", "run_compiled"],
+    "control": ["fits", "standard_logic", "scanned", "safe_scans", "play"],
+    "checker": ["check", "is_invariant", "breaks", "reached"],
+    "ridecheck": ["choices", "check_ride", "is_safe_list", "all_faults"],
+    "operation": ["operate", "laps", "shares"],
+    "rolltimes": ["roll_times", "scans_for", "is_within"],
 }
 METHODS = {
     "Layout": ["__init__", "total", "blocks", "metre", "height", "begin", "brake", "end"],
