@@ -67,6 +67,14 @@ class Logic:
 
 def parse_logic(text):
     """The logic that a text tells."""
+    return read_program(text, _read_statement)
+
+
+def read_program(text, read_statement):
+    """The logic that a text tells: declarations, and then lines that a function reads as statements.
+
+    The function takes the declarations and the words of a line; it gives None for a line that is no statement.
+    """
     declared = Declarations()
     statements = []
     for number, line in enumerate(text.split("\n"), start=1):
@@ -75,7 +83,7 @@ def parse_logic(text):
             if statements or not declared.declare(words):
                 raise InvalidText(number)
         else:
-            statement = _read_statement(declared, words)
+            statement = read_statement(declared, words)
             if statement is None or len(statements) == MOST_STATEMENTS:
                 raise InvalidText(number)
             statements.append(statement)
@@ -93,6 +101,15 @@ def _read_statement(declared, words):
 
 def format_logic(logic):
     """The text of a logic."""
+    lines = declared_lines(logic)
+    for kind, name, condition in logic.statements:
+        word = ":=" if kind == "set" else "counts"
+        lines.append(f"{name} {word} {written_condition(condition)}")
+    return "\n".join(lines)
+
+
+def declared_lines(logic):
+    """The lines of the declarations of a logic."""
     starts = dict(logic.bits)
     limits = dict(logic.timers)
     lines = ["input " + name for name in logic.inputs]
@@ -101,10 +118,7 @@ def format_logic(logic):
             lines.append(f"timer {name} {limits[name]}")
         else:
             lines.append(f"bit {name} {starts[name]}")
-    for kind, name, condition in logic.statements:
-        word = ":=" if kind == "set" else "counts"
-        lines.append(f"{name} {word} {written_condition(condition)}")
-    return "\n".join(lines)
+    return lines
 
 
 def condition_value(logic, memory, inputs, condition):

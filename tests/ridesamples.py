@@ -122,6 +122,19 @@ class Explorer:
             waiting = following
         return list(found)
 
+    def edges_without_stop(self):
+        """All scenes that are reached without `stop` and without faults, with their edges without `stop`."""
+        known = {self.first}
+        waiting = [self.first]
+        while waiting:
+            scene = waiting.pop()
+            for choice, after in self.edges(scene, []):
+                if choice[0][1] == 0:
+                    yield scene, choice, after
+                    if after not in known:
+                        known.add(after)
+                        waiting.append(after)
+
 
 def random_scans(random, ride, count, fault=None, at=0, weights=(1, 1, 1)):
     """Scans for a play with drawn buttons and late trains, and with a fault at one of them."""

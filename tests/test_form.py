@@ -28,6 +28,11 @@ INTERFACE = {
     "ridecheck": ["choices", "check_ride", "is_safe_list", "all_faults"],
     "operation": ["operate", "laps", "shares"],
     "rolltimes": ["roll_times", "scans_for", "is_within"],
+    "needs": ["with_lift", "with_strength", "least_lift", "least_strength", "longest_train"],
+    "rungs": ["parse_rungs", "format_rungs"],
+    "compare": ["compare"],
+    "simple": ["simplified_condition", "simplified", "needed", "cut_down"],
+    "recorder": ["record_of", "explanation", "causes"],
 }
 METHODS = {
     "Layout": ["__init__", "total", "blocks", "metre", "height", "begin", "brake", "end"],

@@ -134,20 +134,11 @@ class StationTest(unittest.TestCase):
             checked = 0
             if in_station(ride) in ride.first()[0] and not is_full(ride, ride.first(), 0):
                 self.assert_goes(explorer, explorer.first)
-            known = {explorer.first}
-            waiting = [explorer.first]
-            while waiting:
-                scene = waiting.pop()
-                for choice, after in explorer.edges(scene, []):
-                    if choice[0][1] == 1:
-                        continue
-                    if in_station(ride) in after[0][0]:
-                        if not is_full(ride, scene[0], 0) and not is_full(ride, after[0], 0):
-                            self.assert_goes(explorer, after)
-                            checked += 1
-                    if after not in known:
-                        known.add(after)
-                        waiting.append(after)
+            for before, _, (after, memory) in explorer.edges_without_stop():
+                if in_station(ride) in after[0]:
+                    if not is_full(ride, before[0], 0) and not is_full(ride, after, 0):
+                        self.assert_goes(explorer, (after, memory))
+                        checked += 1
             self.assertGreater(checked, 0)
 
     def test_the_first_scan_of_rides_of_all_sizes(self):
@@ -172,19 +163,10 @@ class BarsTest(unittest.TestCase):
         for ride in rides(SMALL_RIDES):
             explorer = Explorer(ride)
             opened = 0
-            known = {explorer.first}
-            waiting = [explorer.first]
-            while waiting:
-                scene = waiting.pop()
-                for choice, after in explorer.edges(scene, []):
-                    if choice[0][1] == 1:
-                        continue
-                    if choice[0] == OPEN and in_station(ride) in scene[0][0]:
-                        self.assertEqual(after[0][1], 1)
-                        opened += 1
-                    if after not in known:
-                        known.add(after)
-                        waiting.append(after)
+            for before, choice, after in explorer.edges_without_stop():
+                if choice[0] == OPEN and in_station(ride) in before[0][0]:
+                    self.assertEqual(after[0][1], 1)
+                    opened += 1
             self.assertGreater(opened, 0)
 
     def test_they_close(self):
