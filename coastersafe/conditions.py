@@ -9,7 +9,8 @@ STRENGTHS = {"(": 0, "or": 1, "and": 2, "not": 3}
 class ConditionReader:
     """What was read of a condition so far: the parts that are done, and the words that wait for parts.
 
-    Brackets may nest deeper than calls may, so the reader keeps its own stacks.
+    A part is a pair of a condition and its depth. Brackets may nest deeper than calls may, so the reader keeps its
+    own stacks.
     """
 
     def __init__(self):
@@ -18,7 +19,7 @@ class ConditionReader:
         self._needs_part = True
 
     def take(self, word):
-        """Reads one more word; False if it cannot stand here, or if the condition becomes too deep."""
+        """Reads one more word; False if it cannot stand here."""
         if self._needs_part:
             return self._take_begin(word)
         if word == ")":
@@ -26,9 +27,9 @@ class ConditionReader:
         if word not in ("and", "or"):
             return False
         self._needs_part = True
-        is_done = self._join(STRENGTHS[word])
+        self._join(STRENGTHS[word])
         self._waiting.append(word)
-        return is_done
+        return True
 
     def _take_begin(self, word):
         if word in ("not", "("):
@@ -40,45 +41,66 @@ class ConditionReader:
             return True
         if not is_name(word):
             return False
-        self._parts.append((("name", word), 1))
+        self._parts.append(named(word))
         return True
 
     def _close(self):
-        if not self._join(STRENGTHS["or"]) or not self._waiting:
+        self._join(STRENGTHS["or"])
+        if not self._waiting:
             return False
         self._waiting.pop()
         return True
 
     def _join(self, strength):
-        """Joins parts by the waiting words that bind at least so strongly; False if one becomes too deep."""
+        """Joins parts by the waiting words that bind at least so strongly."""
         while self._waiting and STRENGTHS[self._waiting[-1]] >= strength:
             word = self._waiting.pop()
-            right, depth = self._parts.pop()
+            right = self._parts.pop()
             if word == "not":
-                joined = ("not", right)
+                self._parts.append(negated(right))
             else:
-                left, left_depth = self._parts.pop()
-                joined = (word, left, right)
-                depth = max(depth, left_depth)
-            if depth == MOST_DEPTH:
-                return False
-            self._parts.append((joined, depth + 1))
-        return True
+                self._parts.append(joined(word, self._parts.pop(), right))
 
     def result(self):
-        """The condition, or None if it has no end here."""
-        if self._needs_part or not self._join(STRENGTHS["or"]) or self._waiting:
+        """The part that is the whole condition, or None if it has no end here."""
+        if self._needs_part:
             return None
-        return self._parts[0][0]
+        self._join(STRENGTHS["or"])
+        if self._waiting:
+            return None
+        return self._parts[0]
 
 
-def read_condition(words):
-    """The condition that a list of words tells, or None if they tell none, or one that is too deep."""
+def named(name):
+    """The part that is a name."""
+    return (("name", name), 1)
+
+
+def negated(part):
+    """The part that is "not" of another one."""
+    return (("not", part[0]), part[1] + 1)
+
+
+def joined(kind, left, right):
+    """The part that is "and" or "or" of two others."""
+    return ((kind, left[0], right[0]), max(left[1], right[1]) + 1)
+
+
+def read_part(words):
+    """The part that a list of words tells, however deep it is, or None if they tell none."""
     reader = ConditionReader()
     for word in words:
         if not reader.take(word):
             return None
     return reader.result()
+
+
+def read_condition(words):
+    """The condition that a list of words tells, or None if they tell none, or one that is too deep."""
+    part = read_part(words)
+    if part is None or part[1] > MOST_DEPTH:
+        return None
+    return part[0]
 
 
 def written_condition(condition):

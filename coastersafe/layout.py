@@ -1,7 +1,7 @@
 """Tracks: metres, segments, blocks and layouts."""
 
 from coastersafe.errors import BadNumber, InvalidLayout, InvalidText
-from coastersafe.words import read_number
+from coastersafe.words import read_lines, read_number
 
 KINDS = ("coast", "lift", "brake")
 MOST_LENGTH = 500
@@ -105,12 +105,7 @@ def format_layout(layout):
 def parse_layout(text):
     """The layout that a text tells."""
     lines = text.split("\n")
-    segments = []
-    for number, line in enumerate(lines, start=1):
-        segment = _read_segment(line)
-        if segment is None:
-            raise InvalidText(number)
-        segments.append(segment)
+    segments = read_lines(lines, 1, _read_segment)
     try:
         return Layout(segments)
     except InvalidLayout:

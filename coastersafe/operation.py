@@ -2,7 +2,7 @@
 
 from coastersafe.control import BUTTONS, check_fit, scanned
 from coastersafe.ride import dangers, is_at_rest, is_in
-from coastersafe.words import read_number
+from coastersafe.words import read_numbers
 
 SCAN_WORDS = ("go", "stop", "open", "late")
 BAD_LINE = "bad line"
@@ -61,8 +61,8 @@ def _written_state(state):
 
 def _read_fault(words):
     """The fault that words tell, whether or not a ride has its part, or None."""
-    numbers = [read_number(word) for word in words[1:]]
-    if None in numbers or not numbers or numbers[-1] not in (0, 1):
+    numbers = read_numbers(words[1:])
+    if not numbers or numbers[-1] not in (0, 1):
         return None
     if words[0] in ("sensor", "brake") and len(numbers) == 3:
         return ((words[0], numbers[0], numbers[1]), numbers[2])

@@ -1,6 +1,6 @@
 """Logics that are written as rungs: contacts and coils."""
 
-from coastersafe.conditions import MOST_DEPTH
+from coastersafe.conditions import MOST_DEPTH, joined, named, negated
 from coastersafe.errors import NotFitting
 from coastersafe.logic import declared_lines, read_program
 
@@ -43,7 +43,7 @@ class RungReader:
     def _end_branch(self):
         if self._row is None:
             return False
-        self._branches = _joined("or", self._branches, self._row)
+        self._branches = _behind("or", self._branches, self._row)
         self._row = None
         return self._branches[1] <= MOST_DEPTH
 
@@ -55,17 +55,17 @@ class RungReader:
         return self._add(bracket)
 
     def _add(self, part):
-        self._row = _joined("and", self._row, part)
+        self._row = _behind("and", self._row, part)
         return self._row[1] <= MOST_DEPTH
 
     def _contact(self, word):
         if word.startswith("-"):
             if self._declared.kind(word[1:]) is None:
                 return None
-            return (("not", ("name", word[1:])), 2)
+            return negated(named(word[1:]))
         if self._declared.kind(word) is None:
             return None
-        return (("name", word), 1)
+        return named(word)
 
     def result(self):
         """The part for all contacts, or None if they have no end here."""
@@ -74,11 +74,11 @@ class RungReader:
         return self._row
 
 
-def _joined(kind, left, right):
-    """The part that joins two parts; the left one may be None."""
+def _behind(kind, left, right):
+    """The part that joins what was read before, which may be None, and one more part."""
     if left is None:
         return right
-    return ((kind, left[0], right[0]), max(left[1], right[1]) + 1)
+    return joined(kind, left, right)
 
 
 def parse_rungs(text):
@@ -110,9 +110,9 @@ def _stated(declared, coil, part):
     if word not in KINDS_OF_COILS or declared.kind(name) != KINDS_OF_COILS[word]:
         return None
     if word == "set":
-        part = _joined("or", (("name", name), 1), part)
+        part = joined("or", named(name), part)
     elif word == "reset":
-        part = _joined("and", (("name", name), 1), (("not", part[0]), part[1] + 1))
+        part = joined("and", named(name), negated(part))
     if part[1] > MOST_DEPTH:
         return None
     return ("count" if word == "time" else "set", name, part[0])

@@ -1,10 +1,23 @@
-"""The words of texts: numbers and names."""
+"""The lines and words of texts: numbers and names."""
+
+from coastersafe.errors import InvalidText
 
 DIGITS = "0123456789"
 LETTERS = "abcdefghijklmnopqrstuvwxyz"
 MOST_DIGITS = 9
 MOST_SIGNS = 12
 RESERVED = ("input", "bit", "timer", "counts", "and", "or", "not")
+
+
+def read_lines(lines, first, read_line):
+    """What a function reads from each of some lines, the first of which has a number; it gives None for a wrong one."""
+    found = []
+    for number, line in enumerate(lines, start=first):
+        told = read_line(line)
+        if told is None:
+            raise InvalidText(number)
+        found.append(told)
+    return found
 
 
 def read_number(word):
@@ -16,6 +29,14 @@ def read_number(word):
     if word[0] == "0" and word != "0":
         return None
     return int(word)
+
+
+def read_numbers(words):
+    """The numbers that words tell, or None if one of them tells none."""
+    numbers = [read_number(word) for word in words]
+    if None in numbers:
+        return None
+    return numbers
 
 
 def is_name(word):
