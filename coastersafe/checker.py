@@ -1,8 +1,7 @@
 """Exact checks of logics: invariants, and runs that break a condition."""
 
 from coastersafe.conditions import names_of
-from coastersafe.errors import UnknownName
-from coastersafe.logic import condition_value
+from coastersafe.logic import check_names, condition_value
 from coastersafe.search import BROKEN, searched
 from coastersafe.sweeps import Sweep, all_of, first_of, first_outcomes, input_vectors, inputs_of, is_memory
 
@@ -34,22 +33,16 @@ class Memories:
 
 def check(logic, condition, *, limit=20000):
     """An invariant that shows that no run breaks a condition, or the least one of the shortest runs that do."""
-    _check_names(logic, condition)
+    check_names(logic, names_of(condition))
     kind, found = searched(Memories(logic, condition), logic.first(), limit)
     if kind == BROKEN:
         return ("broken", [inputs_of(number, len(logic.inputs)) for number in found])
     return ("always", sorted(found))
 
 
-def _check_names(logic, condition):
-    for name in names_of(condition):
-        if name not in logic.inputs and name not in logic.order:
-            raise UnknownName(name)
-
-
 def is_invariant(logic, condition, memories):
     """Whether a list of memories shows that no run breaks a condition."""
-    _check_names(logic, condition)
+    check_names(logic, names_of(condition))
     if not all([is_memory(logic, memory) for memory in memories]):
         return False
     known = {memory: True for memory in memories}
@@ -67,7 +60,7 @@ def is_invariant(logic, condition, memories):
 
 def breaks(logic, condition, run):
     """Whether a condition is 1 after the last scan of a run."""
-    _check_names(logic, condition)
+    check_names(logic, names_of(condition))
     if not run:
         return False
     memory = logic.first()

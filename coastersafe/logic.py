@@ -124,10 +124,15 @@ def declared_lines(logic):
 def condition_value(logic, memory, inputs, condition):
     """The value of a condition, with the values of a memory and inputs."""
     values = logic.named_values(memory, inputs)
-    for name in names_of(condition):
-        if name not in values:
-            raise UnknownName(name)
+    check_names(logic, names_of(condition))
     return logic.value_of(condition, values)
+
+
+def check_names(logic, names):
+    """Raises UnknownName for the first one of some names that is not declared."""
+    for name in names:
+        if name not in logic.inputs and name not in logic.order:
+            raise UnknownName(name)
 
 
 def parse_condition(text):

@@ -141,6 +141,27 @@ def is_in(ride, train, block):
     return place == block or (kind == "over" and _next_block(ride, place) == block)
 
 
+def is_state(ride, state):
+    """Whether a state is one that a ride may have."""
+    trains, bars, fault = state
+    if len(trains) != len(ride.trains) or bars not in (0, 1):
+        return False
+    if fault is not None and (fault[0] not in ride.parts() or fault[1] not in (0, 1)):
+        return False
+    return all([_is_train(ride, train) for train in trains])
+
+
+def _is_train(ride, train):
+    kind, block, age = train
+    if not 0 <= block < len(ride.ways):
+        return False
+    if kind == "held":
+        return age == 0
+    if kind == "over":
+        return 0 <= age < ride.over
+    return 0 <= age < ride.ways[block][1]
+
+
 def is_at_rest(state):
     """Whether all trains are held."""
     return all([kind == "held" for kind, block, age in state[0]])

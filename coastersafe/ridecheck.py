@@ -2,7 +2,7 @@
 
 from coastersafe.control import check_fit, commanded
 from coastersafe.errors import NotFitting
-from coastersafe.ride import dangers, moved, readings
+from coastersafe.ride import dangers, is_state, moved, readings
 from coastersafe.search import BROKEN, searched
 from coastersafe.sweeps import Sweep, all_of, input_vectors, inputs_of, is_memory
 
@@ -24,6 +24,13 @@ def _choices_of_move(ride, state, faults):
     if state[2] is None:
         may_come.extend(faults)
     return [(late, fault) for late in late_choices(ride, state[0]) for fault in may_come]
+
+
+def is_choice(ride, state, faults, choice):
+    """Whether a tuple `(buttons, late, fault)` is one of the choices from a state."""
+    buttons, late, fault = choice
+    may_come = fault is None or (state[2] is None and fault in faults)
+    return may_come and late in late_choices(ride, state[0])
 
 
 def late_choices(ride, trains):
@@ -105,21 +112,22 @@ class Scenes:
         return view
 
     def is_scene(self, scene):
-        """Whether a scene has as many trains as the ride, and a memory of the logic."""
-        return len(scene[0][0]) == len(self._ride.trains) and is_memory(self._logic, scene[1])
+        """Whether a pair is one of a state of the ride and a memory of the logic."""
+        return is_state(self._ride, scene[0]) and is_memory(self._logic, scene[1])
 
 
 def check_ride(ride, logic, faults, *, limit=5000):
     """All scenes, if none has a danger, or the first one of the shortest lists of choices that lead to one."""
-    _check_parts(ride, logic, faults)
+    check_parts(ride, logic, faults)
     space = Scenes(ride, logic, faults)
     kind, found = searched(space, space.first(), limit)
     if kind == BROKEN:
         return ("unsafe", found)
-    return ("safe", found)
+    return ("safe", list(found))
 
 
-def _check_parts(ride, logic, faults):
+def check_parts(ride, logic, faults):
+    """Raises NotFitting if a logic does not fit a ride, or a fault has a part that the ride has not."""
     check_fit(ride, logic)
     parts = ride.parts()
     if not all([part in parts for part, number in faults]):
@@ -128,7 +136,7 @@ def _check_parts(ride, logic, faults):
 
 def is_safe_list(ride, logic, faults, scenes):
     """Whether a list of scenes shows that no scene with a danger is reached."""
-    _check_parts(ride, logic, faults)
+    check_parts(ride, logic, faults)
     space = Scenes(ride, logic, faults)
     if not all([space.is_scene(scene) for scene in scenes]):
         return False

@@ -32,9 +32,13 @@ def inputs_of(number, count):
 
 
 class Sweep:
-    """What scans make of one memory: for each bit the vector in which it is 1, for each timer those of its counts."""
+    """What scans make of one memory: for each bit the vector in which it is 1, for each timer those of its counts.
+
+    The list `told` has for each statement the vector in which its condition was 1.
+    """
 
     def __init__(self, logic, memory, vectors, whole):
+        self.told = []
         self._order = logic.order
         self._whole = whole
         self._limits = dict(logic.timers)
@@ -47,6 +51,7 @@ class Sweep:
                 self._vectors[name] = whole if number == 1 else 0
         for kind, name, condition in logic.statements:
             vector = self.vector(condition)
+            self.told.append(vector)
             if kind == "set":
                 self._vectors[name] = vector
             else:

@@ -116,3 +116,52 @@ def random_logic_text(random):
         condition = random_condition(random, ["i", "j", "x", "y", "z", "t", "u"], random.randint(1, 4))
         lines.append(f"{name} {word} {format_condition(condition)}")
     return "\n".join(lines)
+
+
+def plainly_done(logic, memory, told):
+    """The values of the conditions of all statements when they are done in a scan, and the memory after it."""
+    values = dict(zip(logic.inputs + logic.order, told + memory))
+    limits = dict(logic.timers)
+    done = []
+    for kind, name, condition in logic.statements:
+        seen = {other: int(values[other] == limits[other]) if other in limits else values[other] for other in values}
+        value = plain_value(condition, seen)
+        done.append(value)
+        if kind == "count":
+            value = min(values[name] + 1, limits[name]) if value else 0
+        values[name] = value
+    return done, tuple([values[name] for name in logic.order])
+
+
+def all_told(logic):
+    """All tuples of inputs, in ascending order."""
+    return list(product((0, 1), repeat=len(logic.inputs)))
+
+
+def plainly_reached(logic):
+    """For each reached memory the least one of the shortest runs that lead to it, in the order of these runs."""
+    runs = {logic.first(): []}
+    level = [logic.first()]
+    while level:
+        following = []
+        for memory in level:
+            for told in all_told(logic):
+                after = plainly_done(logic, memory, told)[1]
+                if after not in runs:
+                    runs[after] = runs[memory] + [told]
+                    following.append(after)
+        level = following
+    return runs
+
+
+def plain_goals(logic):
+    """For each goal that can be met, ascending, the least one of the shortest runs that meet it."""
+    found = {}
+    for memory, run in plainly_reached(logic).items():
+        for told in all_told(logic):
+            for statement, value in enumerate(plainly_done(logic, memory, told)[0]):
+                shown = run + [told]
+                goal = (statement, value)
+                if goal not in found or (len(shown), shown) < (len(found[goal]), found[goal]):
+                    found[goal] = shown
+    return {goal: found[goal] for goal in sorted(found)}

@@ -33,6 +33,16 @@ INTERFACE = {
     "compare": ["compare"],
     "simple": ["simplified_condition", "simplified", "needed", "cut_down"],
     "recorder": ["record_of", "explanation", "causes"],
+    "interlocks": ["parse_table", "apart_condition"],
+    "ridetext": ["format_ride", "parse_ride", "format_train", "parse_train", "format_play", "parse_play"],
+    "capacity": ["cycle", "rate", "best_number"],
+    "verdicts": ["format_verdict", "parse_verdict", "accepts"],
+    "homeward": ["after_plan", "is_plan", "best_plan"],
+    "uses": ["readers", "writers", "idle", "constant_bits", "settled"],
+    "fleet": ["worst_train", "are_safe", "worst_faults"],
+    "charts": ["chart", "run_of_chart", "is_true_chart"],
+    "suites": ["goals_of", "suite", "is_suite"],
+    "rideverdicts": ["format_ride_verdict", "parse_ride_verdict", "accepts_ride"],
 }
 METHODS = {
     "Layout": ["__init__", "total", "blocks", "metre", "height", "begin", "brake", "end"],

@@ -2,7 +2,7 @@ import unittest
 from itertools import product
 
 from coastersafe.errors import InvalidRide, NotFitting
-from coastersafe.ride import Ride, dangers, is_at_rest, moved, readings
+from coastersafe.ride import Ride, dangers, is_at_rest, is_state, moved, readings
 
 WAYS = [(1, 2), (1, 1), (2, 3)]
 SHUT = (0, 0, 0, 0, 0, 0)
@@ -366,6 +366,30 @@ class RestTest(unittest.TestCase):
         for train in (("way", 1, 0), ("over", 1, 0), ("over", 2, 2)):
             for trains in ((train,), (held, train), (train, held), (train, train)):
                 self.assertIs(is_at_rest((trains, 0, None)), False)
+
+
+class StateTest(unittest.TestCase):
+    def test_trains(self):
+        ride = Ride([(1, 3), (1, 2), (1, 1)], 2, [0, 2])
+        held = ("held", 0, 0)
+        for kind, block, age in product(("way", "held", "over"), range(-1, 5), range(-2, 6)):
+            longest = {"way": (3, 2, 1), "held": (1, 1, 1), "over": (2, 2, 2)}[kind]
+            expected = 0 <= block < 3 and 0 <= age < longest[block]
+            train = (kind, block, age)
+            for trains in ((held, train), (train, held), (train, train)):
+                self.assertIs(is_state(ride, (trains, 0, None)), expected, train)
+            for trains in ((), (train,), (held, held, train)):
+                self.assertIs(is_state(ride, (trains, 0, None)), False, train)
+
+    def test_bars_and_faults(self):
+        ride = ride_with()
+        trains = ride.first()[0]
+        for bars in (-1, 0, 1, 2):
+            self.assertIs(is_state(ride, (trains, bars, None)), bars in (0, 1))
+        for kind, block, channel, number in product(("sensor", "present", "brake"), range(-1, 4), range(-1, 3), range(-1, 3)):
+            part = (kind, block, channel)
+            expected = part in ride.parts() and number in (0, 1)
+            self.assertIs(is_state(ride, (trains, 1, (part, number))), expected, part)
 
 
 if __name__ == "__main__":
