@@ -17,7 +17,7 @@ class HandMoves:
     def __init__(self, ride):
         self._ride = ride
 
-    def first(self, places):
+    def node_of(self, places):
         """The node at the beginning: the places, and for each train whether it has been home."""
         return (places, tuple([self._is_home(place) for place in places]))
 
@@ -82,7 +82,7 @@ def is_plan(ride, places, plan):
     """Whether all trains are home after hand moves."""
     _check_places(ride, places)
     moves = HandMoves(ride)
-    node = moves.first(places)
+    node = moves.node_of(places)
     for train in plan:
         following = dict(moves.looked(node))
         if train not in following:
@@ -97,7 +97,7 @@ def best_plan(ride, places):
     if len(ride.ways) > MOST_BLOCKS:
         raise TooLarge(MOST_BLOCKS)
     moves = HandMoves(ride)
-    first = moves.first(places)
+    first = moves.node_of(places)
     if all(first[1]):
         return []
     _, plan = searched(moves, first, MOST_NODES)

@@ -16,13 +16,13 @@ class Table:
 
     def __init__(self, outputs):
         """Takes a dict whose keys are the names of all outputs, also of those in lines that are read later."""
-        self._outputs = outputs
+        self._outputs = dict(outputs)
         self._declared = Declarations()
         self._asked = []
         self._apart = {}
         self.pairs = []
 
-    def take(self, number, words):
+    def take_line(self, number, words):
         """Reads the words of one more line; False if it is wrong."""
         if words[0] == "input":
             return not self._asked and not self.pairs and self._declared.declare(words)
@@ -36,8 +36,10 @@ class Table:
             return False
         if not all([self._is_declared(name) for name in names_of(part[0])]):
             return False
+        if not self._declared.declare(["bit", words[1], "0"]):
+            return False
         self._asked.append((number, words[1], part))
-        return self._declared.declare(["bit", words[1], "0"])
+        return True
 
     def _is_declared(self, name):
         return name in self._outputs or self._declared.kind(name) is not None
@@ -97,7 +99,7 @@ def _read_table(text):
     lines = [line.split(" ") for line in text.split("\n")]
     table = Table({words[1]: True for words in lines if _read_output(words) is not None})
     for number, words in enumerate(lines, start=1):
-        if not table.take(number, words):
+        if not table.take_line(number, words):
             raise InvalidText(number)
     return table
 

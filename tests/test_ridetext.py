@@ -125,6 +125,18 @@ class TrainTest(unittest.TestCase):
             self.assertEqual(wrong_line(parse_train, TRAIN.replace(old, new)), 1)
 
 
+class ExamplesTest(unittest.TestCase):
+    def test_the_examples(self):
+        self.assertEqual(
+            [
+                parse_play("go late 1\n-\nfault brake 2 0 1", 2)[0],
+                format_play([((0, 1, 1), (0, 0), (("present", 0, 1), 0))]),
+            ],
+            [((1, 0, 0), (0, 1), None), "stop open fault present 0 1 0"],
+        )
+        self.assertEqual(wrong_line(parse_ride, "over 1\nway 1 2\nway 3 2\ntrain 0"), 4)
+
+
 class PlayTest(unittest.TestCase):
     def check(self, line, text, trains=3):
         self.assertEqual(wrong_line(parse_play, text, trains), line, text)
