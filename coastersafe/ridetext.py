@@ -34,7 +34,7 @@ def parse_ride(text):
         told[words[0]].append(tuple(numbers))
         expected = FOLLOWING[words[0]]
     try:
-        return Ride(told["way"], told["over"][0][0], [numbers[0] for numbers in told["train"]])
+        return Ride(told["way"], told["over"][0][0], [row[0] for row in told["train"]])
     except InvalidRide:
         raise InvalidText(len(lines)) from None
 
