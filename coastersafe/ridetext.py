@@ -103,7 +103,7 @@ def read_scan(line, trains):
     buttons = tuple([1 if button in before_late else 0 for button in BUTTONS])
     numbers = read_numbers(before_fault[len(before_late) + 1:])
     late = tuple([1 if numbers and train in numbers else 0 for train in range(trains)])
-    scan = (buttons, late, read_fault(words[len(before_fault) + 1:]))
+    scan = (buttons, late, _read_fault_of_play(words[len(before_fault) + 1:]))
     # What was read with too few or strange words, or in another order, is written in another way.
     if written_scan(scan) != line:
         return None
@@ -112,6 +112,14 @@ def read_scan(line, trains):
 
 def _words_before(word, words):
     return words[:words.index(word)] if word in words else words
+
+
+def _read_fault_of_play(words):
+    """The fault that words of a play tell, or None."""
+    # The 0 is a word of the form, as there is one station only: only blocks and channels may be any numbers.
+    if words[:1] == ["present"] and words[1:2] != ["0"]:
+        return None
+    return read_fault(words)
 
 
 def read_fault(words):

@@ -166,7 +166,7 @@ class PlayTest(unittest.TestCase):
         self.assertEqual(parse_play("", 1), [])
 
     def test_all_scans_of_one_kind(self):
-        faults = [None] + [((kind, 2, 1), 0) for kind in ("sensor", "present", "brake")]
+        faults = [None] + [(part, 0) for part in (("sensor", 2, 1), ("present", 0, 1), ("brake", 2, 1))]
         scans = list(product(product((0, 1), repeat=3), product((0, 1), repeat=3), faults))
         text = format_play(scans)
         self.assertEqual(len(set(text.split("\n"))), len(scans))
@@ -183,10 +183,22 @@ class PlayTest(unittest.TestCase):
         for kind, block, channel, number in product(
             ("sensor", "present", "brake"), (0, 12, 999999999), (0, 2, 999999999), (0, 1)
         ):
+            if kind == "present" and block != 0:
+                continue
             scan = ((0, 0, 0), (0,), ((kind, block, channel), number))
             line = f"fault {kind} {block} {channel} {number}"
             self.assertEqual(format_play([scan]), line)
             self.assertEqual(parse_play(line, 1), [scan])
+
+    def test_the_zero_of_present(self):
+        for before in ("", "go ", "go stop open late 0 1 "):
+            for block, channel, number in product((1, 2, 10, 999999999), (0, 1, 5), (0, 1)):
+                line = f"{before}fault present {block} {channel} {number}"
+                self.check(1, line)
+                self.check(1, line + "\n?")
+                self.check(3, f"fault present 0 1 1\nfault brake 1 0 0\n{line}\n?")
+        for word in NO_NUMBERS:
+            self.check(2, f"-\nfault present {word} 1 1")
 
     def test_faults_of_another_form(self):
         for line in (

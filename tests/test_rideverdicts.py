@@ -144,6 +144,13 @@ class WrongLinesTest(unittest.TestCase):
             self.assertEqual(line_of(f"unsafe\n-\ngo late 0 1\n{line}\n-\n"), 4, line)
         self.assertEqual(line_of("unsafe\nlate 1", SHORT, logic_for(2)), 2)
 
+    def test_present_in_choices_and_in_scenes(self):
+        # A choice has the form of a scan of a play, with a 0 behind the word; a scene has a form of its own.
+        for block in (1, 12, 999999999):
+            self.assertEqual(line_of(f"unsafe\ngo late 0\nfault present {block} 1 0\n?"), 3)
+            self.assertIsNone(line_of("safe\n" + SCENE.replace("fault -", f"fault present {block} 1 0")))
+        self.assertIsNone(line_of("unsafe\ngo late 0\nfault present 0 1 0"))
+
 
 class AcceptsTest(unittest.TestCase):
     def test_the_example(self):
@@ -323,7 +330,10 @@ class ErrorsTest(unittest.TestCase):
                     accepts_ride(SHORT, logic, [(("brake", 0, 0), 1), (part, 0)], text)
 
     def test_lines(self):
-        for text, line in (("wrong", 1), ("unsafe\n-\nlate 1", 3), ("safe\n" + SCENE, 2), ("", 1)):
+        for text, line in (
+            ("wrong", 1), ("unsafe\n-\nlate 1", 3), ("safe\n" + SCENE, 2), ("", 1),
+            ("unsafe\n-\nfault present 1 0 1", 3),
+        ):
             with self.assertRaises(InvalidText) as caught:
                 accepts_ride(SHORT, logic_for(2), all_faults(SHORT), text)
             self.assertEqual(caught.exception.line, line)
